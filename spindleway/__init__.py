@@ -1,0 +1,1 @@
+"""Spindleway: how many steps lie between the two ends of a solid."""
