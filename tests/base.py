@@ -9,7 +9,9 @@ from spindleway.errors import SolidError
 GREAT = 10 ** 60 - 1
 
 # Values of other kinds than integers, lists and tuples.
-ODD_VALUES = (None, True, False, "", "12", b"12", 1.0, Fraction(2), {}, {0: 1}, set(), frozenset([1]), range(3), object(), int)
+ODD_VALUES = (
+    None, True, False, "", "12", b"12", 1.0, Fraction(2), {}, {0: 1}, set(), frozenset([1]), range(3), object(), int,
+)
 
 
 class Case(unittest.TestCase):
@@ -57,18 +59,25 @@ def product(row, point):
     return sum(one * two for one, two in zip(row, point))
 
 
-def sides(points):
-    """All sides by their definition: each choice of points that spans a plane, this plane by minors."""
+def planes_by_minors(points):
+    """By their definition the planes (row, number) that hold points that span them, none being past them."""
     wide = len(points[0])
-    found = set()
     for chosen in combinations(points, wide):
         steps = [[one - two for one, two in zip(point, chosen[0])] for point in chosen[1:]]
         row = [(-1) ** at * determinant([step[:at] + step[at + 1:] for step in steps]) for at in range(wide)]
-        if any(row):
-            worths = [product(row, point) - product(row, chosen[0]) for point in points]
-            if min(worths) >= 0 or max(worths) <= 0:
-                found.add(tuple(at for at, worth in enumerate(worths) if worth == 0))
-    return tuple(sorted(found))
+        for sign in (1, -1) if any(row) else ():
+            turned = [sign * number for number in row]
+            worths = [product(turned, point) for point in points]
+            if max(worths) == product(turned, chosen[0]):
+                yield turned, max(worths)
+
+
+def sides(points):
+    """All sides by their definition."""
+    return tuple(sorted({
+        tuple(at for at, point in enumerate(points) if product(row, point) == number)
+        for row, number in planes_by_minors(points)
+    }))
 
 
 def ridges(points, lots):

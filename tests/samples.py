@@ -21,6 +21,14 @@ def board(wide):
     return tuple(product((0, 1), repeat=wide))
 
 
+def joined(one, other):
+    """The points of two solids, far from one another: each side has all points of the one, or of the other."""
+    return (
+        *((*point, *[0] * len(other[0]), 0) for point in one),
+        *((*[0] * len(one[0]), *point, 1) for point in other),
+    )
+
+
 def curve(wide, many):
     """Points t, t * t, t * t * t .. for as many t: all of them corners."""
     return tuple(tuple(t ** power for power in range(1, wide + 1)) for t in range(-(many // 2), many - many // 2))
@@ -52,6 +60,9 @@ def noisy_rows(seed, many, wide, most):
     return [numbers[at:at + wide] for at in range(0, many * wide, wide)]
 
 
+# The sides that have the one square stand in a ring, and two that are opposite there share it alone.
+SQUARES = joined(((1, 0), (0, 1), (-1, 0), (0, -1)), ((1, 0), (0, 1), (-1, 0), (0, -1)))
+
 # As many points as a solid of each dimension may have.
 MOST = {2: 16, 3: 16, 4: 16, 5: 14, 6: 12}
 
@@ -60,7 +71,8 @@ SOLIDS = (
     simplex(2), RING, curve(2, 16),
     simplex(3), TENT, CUBE, PRISM, cross(3), curve(3, 8),
     simplex(4), cross(4), board(4), curve(4, 8), tuple((*point, 0) for point in TENT) + ((1, 1, 1, 5), (1, 1, 1, -5)),
-    simplex(5), cross(5), curve(5, 8), tuple((*point, 0, 0) for point in CUBE) + ((0, 0, 0, 1, 0), (0, 0, 0, 0, 1), (1, 1, 1, 2, 2)),
+    simplex(5), cross(5), curve(5, 8), SQUARES,
+    tuple((*point, 0, 0) for point in CUBE) + ((0, 0, 0, 1, 0), (0, 0, 0, 0, 1), (1, 1, 1, 2, 2)),
     simplex(6), cross(6), curve(6, 9),
 )
 

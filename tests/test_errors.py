@@ -12,7 +12,9 @@ FIELDS = {
     BadSpindle: ("part",), BadLikeness: ("part",), BadPaper: ("part",), Misfit: ("part",),
     Twice: ("value",), Spare: ("value",), TooMany: ("what", "most"), Impossible: ("paper",), BadText: ("item",),
 }
-VALUES = (None, "points", 0, True, -7, 10 ** 5000, (), [], [1, [2]], {"a": [1]}, Denial("no"), object(), float("nan"), int)
+VALUES = (
+    None, "points", 0, True, -7, 10 ** 5000, (), [], [1, [2]], {"a": [1]}, Denial("no"), object(), float("nan"), int,
+)
 
 
 class ErrorsTest(unittest.TestCase):

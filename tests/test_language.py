@@ -21,9 +21,9 @@ BUILTINS = set(
     "ArithmeticError OverflowError RuntimeError NotImplementedError AttributeError NotImplemented".split()
 )
 METHODS = set(
-    "append clear copy count endswith extend find get index insert isalnum isalpha isdigit islower isspace isupper items "
-    "join keys ljust lower lstrip partition pop remove replace reverse rfind rjust rpartition rsplit rstrip setdefault "
-    "split splitlines startswith strip update upper values zfill bit_length title capitalize swapcase casefold center "
+    "append clear copy count endswith extend find get index insert isalnum isalpha isdigit islower isspace isupper "
+    "items join keys ljust lower lstrip partition pop remove replace reverse rfind rjust rpartition rsplit rstrip "
+    "setdefault split splitlines startswith strip update upper values zfill bit_length title capitalize swapcase casefold center "
     "expandtabs removeprefix removesuffix rindex isascii isdecimal isnumeric istitle isidentifier isprintable".split()
 )
 UNDERSCORED = set(
@@ -34,7 +34,8 @@ BARRED_NODES = (
     ast.AnnAssign, ast.Import, ast.Yield, ast.YieldFrom, ast.Lambda, ast.NamedExpr,
 )
 BARRED_WORDS = re.compile(
-    r"\b(register|mro|elements|open|input|law|typing|enum|Enum|Flag|Protocol|Generic|ABC|ABCMeta|namedtuple|abstractmethod)\b"
+    r"\b(register|mro|elements|open|input|law|typing|enum|Enum|Flag|Protocol|Generic|ABC|ABCMeta)\b"
+    r"|\b(namedtuple|abstractmethod)\b"
     r"|dataclass|overload|contextmanager"
 )
 
@@ -68,6 +69,15 @@ def inner_names(tree):
 
 def imports(tree):
     return [node for node in ast.walk(tree) if isinstance(node, ast.ImportFrom)]
+
+
+def is_plainly_string(value):
+    """Whether it is a string, an f-string, str(..), repr(..), or the join of a literal."""
+    if isinstance(value, ast.Call) and isinstance(value.func, ast.Attribute):
+        return value.func.attr == "join" and isinstance(value.func.value, ast.Constant)
+    if isinstance(value, ast.Call):
+        return isinstance(value.func, ast.Name) and value.func.id in ("str", "repr")
+    return isinstance(value, ast.JoinedStr) or (isinstance(value, ast.Constant) and isinstance(value.value, str))
 
 
 class LanguageTest(unittest.TestCase):
@@ -165,6 +175,15 @@ class LanguageTest(unittest.TestCase):
             top = {alias.name for node in imports(tree) for alias in node.names}
             top |= {node.name for node in tree.body if isinstance(node, (ast.ClassDef, ast.FunctionDef))}
             self.assertEqual(top & set(inner_names(tree)), set(), name)
+
+    def test_texts_are_plainly_strings(self):
+        for name, tree in TREES.items():
+            for function in functions(tree):
+                if function.name in ("__str__", "__repr__"):
+                    self.assertIsInstance(function.body[-1], ast.Return)
+                    for node in ast.walk(function):
+                        if isinstance(node, ast.Return):
+                            self.assertTrue(is_plainly_string(node.value), f"{name}:{node.lineno}")
 
     def test_strings(self):
         for name, tree in TREES.items():

@@ -15,7 +15,8 @@ class PapersTest(unittest.TestCase):
     def test_examples(self):
         note = Paper("note", [1, (2, [3])])
         self.assertEqual(
-            [note.parts, bool(note), bool(Denial("no")), note == Denial("note", [1, (2, [3])]), fixed([[], {"a": [1]}])],
+            [note.parts, bool(note), bool(Denial("no")), note == Denial("note", [1, (2, [3])]),
+             fixed([[], {"a": [1]}])],
             [((1, (2, (3,))),), True, False, False, ((), {"a": [1]})],
         )
 

@@ -133,7 +133,8 @@ class PlaneTest(Case):
 
     def test_examples(self):
         self.assertEqual(
-            [plane_through([(0, 3), (2, 0)]), plane_through([[0, 0, 4], [1, 0, 4], [0, 1, 4]]), plane_through([(1, 1), (5, 5)])],
+            [plane_through([(0, 3), (2, 0)]), plane_through([[0, 0, 4], [1, 0, 4], [0, 1, 4]]),
+             plane_through([(1, 1), (5, 5)])],
             [((3, 2), 6), ((0, 0, 1), 4), ((1, -1), 0)],
         )
         self.refuses(Misfit, {"part": "span"}, plane_through, [(0, 0, 0), (1, 1, 1), (2, 2, 2)])

@@ -1,0 +1,14 @@
+import doctest
+import unittest
+from pathlib import Path
+
+
+class ReadmeTest(unittest.TestCase):
+    def test_examples(self):
+        told = doctest.testfile(str(Path(__file__).resolve().parent.parent / "README.md"), module_relative=False)
+        self.assertGreater(told.attempted, 0)
+        self.assertEqual(told.failed, 0)
+
+
+if __name__ == "__main__":
+    unittest.main()
