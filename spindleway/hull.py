@@ -51,14 +51,6 @@ def _side_and_sign(row, lifted):
     return tuple(side), sign
 
 
-def is_corner(sides, point):
-    """Whether some of the sides have a point, and it alone is in all of these."""
-    having = [side for side in sides if point in side]
-    if not having:
-        return False
-    return not [other for other in having[0] if other != point and all([other in side for side in having])]
-
-
 def ridges_among(points, sides):
     """The triples (lot, one, other) of all ridges, ascending, one below other being numbers of sides."""
     found = []

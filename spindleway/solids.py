@@ -1,9 +1,10 @@
 """Solids: points, their sides and the planes of these."""
 
 from spindleway.algebra import product_of, rank_among, span_among
+from spindleway.bits import bits_of, is_meet
 from spindleway.checks import are_points, is_list, is_lot, is_point, is_within
 from spindleway.errors import BadLot, BadNumber, BadSolid, BadText, Misfit, SolidError, Spare, Twice
-from spindleway.hull import is_corner, planes_by_side, ridges_among
+from spindleway.hull import planes_by_side, ridges_among
 from spindleway.texts import points_in, written_point
 
 LEAST_DIMENSION = 2
@@ -15,12 +16,12 @@ MOST_POINTS = (0, 0, 16, 16, 16, 14, 12)
 class Solid:
     """A solid, told by its points.
 
-    Beside what the interface lists it keeps ridges, the triples (lot, one, other), and neighbours,
-    for each side the numbers of its neighbours.
+    Beside what the interface lists it keeps bits, for each side its points as bits, ridges, the triples
+    (lot, one, other), and neighbours, for each side the numbers of its neighbours.
     """
 
     def __init__(self, points):
-        if not _are_points(points):
+        if not are_solid_points(points):
             raise BadSolid("points")
         self.points = tuple([tuple(point) for point in points])
         self.dimension = len(self.points[0])
@@ -30,7 +31,8 @@ class Solid:
         planes = planes_by_side(self.points)
         self.sides = tuple(sorted(planes))
         self.planes = tuple([planes[side] for side in self.sides])
-        _check_corners(self.points, self.sides)
+        self.bits = tuple([bits_of(side) for side in self.sides])
+        _check_corners(self.points, self.bits)
         self.ridges = ridges_among(self.points, self.sides)
         self.neighbours = _neighbours_over(self.ridges, len(self.sides))
 
@@ -50,7 +52,7 @@ class Solid:
             raise BadText(text.count(" ")) from None
 
 
-def _are_points(points):
+def are_solid_points(points):
     """Whether these are points of as many integers, of a dimension and a number that a solid may have."""
     if not is_list(points, 1, None) or not is_list(points[0], LEAST_DIMENSION, MOST_DIMENSION):
         return False
@@ -66,7 +68,7 @@ def _check_unlike(points):
 
 def _check_corners(points, sides):
     for at in range(len(points)):
-        if not is_corner(sides, at):
+        if not is_meet(1 << at, sides):
             raise Spare(points[at])
 
 

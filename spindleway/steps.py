@@ -9,7 +9,7 @@ class Apart(Paper):
     """A walk from a side to another one, and a numbering that grows by as many as the walk has steps."""
 
     def __init__(self, walk, numbers):
-        Paper.__init__(self, "apart", walk, numbers)
+        super().__init__("apart", walk, numbers)
         self.walk = self.parts[0]
         self.numbers = self.parts[1]
 

@@ -11,7 +11,7 @@ class Ways(Paper):
     """As many walks from a side to another one as the dimension, that share no side."""
 
     def __init__(self, walks):
-        Paper.__init__(self, "ways", walks)
+        super().__init__("ways", walks)
         self.walks = self.parts[0]
 
 

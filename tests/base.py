@@ -3,6 +3,7 @@
 import unittest
 from fractions import Fraction
 from itertools import combinations
+from time import monotonic
 
 from spindleway.errors import SolidError
 
@@ -21,6 +22,18 @@ class Case(unittest.TestCase):
             call(*args, **named)
         self.assertIs(type(caught.exception), error)
         self.assertEqual(vars(caught.exception), fields)
+
+
+class TimedCase(Case):
+    # Wide above what is needed, so that a slow machine passes and a program that tries too much does not.
+    seconds = 5
+
+    def in_time(self, call, *args):
+        """What the call returns, which must not take longer than is told."""
+        start = monotonic()
+        told = call(*args)
+        self.assertLess(monotonic() - start, self.seconds)
+        return told
 
 
 def rank(rows):

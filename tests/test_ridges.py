@@ -1,8 +1,9 @@
-from spindleway.errors import BadNumber, BadSolid
+from spindleway.errors import BadNumber, BadSolid, Spare
 from spindleway.ridges import are_near, near, ridges_of
 from spindleway.solids import Solid
 from tests.base import GREAT, ODD_VALUES, Case, ridges
 from tests.samples import MOST, SOLIDS, SQUARES, TENT, curve, led, noise, noisy_rows
+from tests.spindle_samples import SPINDLES
 
 NO_NUMBERS = ODD_VALUES + ([], [0], (1,), -1, -2, -GREAT, GREAT)
 
@@ -47,6 +48,22 @@ class RidgesTest(Case):
     def test_as_many_points_as_may_be(self):
         for wide, most in MOST.items():
             self.check_ridges(curve(wide, most))
+
+    def test_one_point_moved_a_little(self):
+        moved = 0
+        for seed, points in enumerate(SOLIDS + (SQUARES,) * 12 + SPINDLES):
+            wide = len(points[0])
+            at, place = seed % len(points), seed // 3 % wide
+            for more in (1, -1):
+                large = [[50 * number for number in point] for point in points]
+                large[at][place] += more
+                try:
+                    Solid(large)
+                except Spare:
+                    continue
+                moved += 1
+                self.check_ridges(large)
+        self.assertGreater(moved, 60)
 
     def test_what_is_no_ridge(self):
         # The sides (0, 1, 4) and (2, 3, 4) share a point; all four sides about it do.

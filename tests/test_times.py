@@ -1,27 +1,17 @@
 """That answers come in a short time: solids of as many points as may be, with integers of 60 digits."""
 
 import unittest
-from time import monotonic
 
 from spindleway.check_steps import shows_apart, shows_ways
 from spindleway.ridges import are_near, near, ridges_of
 from spindleway.solids import Solid, moved, side_of
 from spindleway.steps import apart, farthest, steps_from
 from spindleway.ways import parted, ways
-from tests.base import GREAT
+from tests.base import GREAT, TimedCase
 from tests.samples import MOST, curve, led, noisy_rows
 
-# Wide above what is needed, so that a slow machine passes and a program that tries too much does not.
-SECONDS = 10
 
-
-class TimesTest(unittest.TestCase):
-    def in_time(self, call, *args):
-        start = monotonic()
-        told = call(*args)
-        self.assertLess(monotonic() - start, SECONDS)
-        return told
-
+class TimesTest(TimedCase):
     def ask(self, solid):
         many = len(solid.sides)
         ends = farthest(solid)[:2]

@@ -1,0 +1,25 @@
+"""Lots as integers: the bit at a place tells whether the point of this index is in the lot."""
+
+
+def bits_of(lot):
+    """The integer that has just the bits at the places that a lot tells."""
+    bits = 0
+    for at in lot:
+        bits = bits | 1 << at
+    return bits
+
+
+def has_all(bits, other):
+    """Whether a lot has all points of another one."""
+    return bits & other == other
+
+
+def is_meet(lot, sides):
+    """Whether some of the sides have all of a lot, and these have nothing else in common."""
+    having = [side for side in sides if side & lot == lot]
+    if not having:
+        return False
+    common = having[0]
+    for side in having:
+        common = common & side
+    return common == lot

@@ -1,0 +1,32 @@
+import unittest
+from itertools import combinations
+
+from spindleway.bits import bits_of, has_all, is_meet
+
+
+def lot_of(bits):
+    return tuple(at for at in range(8) if bits >> at & 1)
+
+
+class BitsTest(unittest.TestCase):
+    def test_bits_of(self):
+        for many in range(6):
+            for lot in combinations(range(12), many):
+                self.assertEqual(bits_of(lot), sum(2 ** at for at in lot))
+
+    def test_has_all(self):
+        for one in range(32):
+            for other in range(32):
+                self.assertIs(has_all(one, other), set(lot_of(other)) <= set(lot_of(one)))
+
+    def test_is_meet(self):
+        sides = (0b0111, 0b1011, 0b1101)
+        for lot in range(16):
+            having = [side for side in sides if has_all(side, lot)]
+            common = set.intersection(*[set(lot_of(side)) for side in having]) if having else None
+            self.assertIs(is_meet(lot, sides), common == set(lot_of(lot)))
+        self.assertEqual([lot for lot in range(16) if is_meet(lot, sides)], [1, 3, 5, 7, 9, 11, 13])
+
+
+if __name__ == "__main__":
+    unittest.main()
