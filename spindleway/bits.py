@@ -23,3 +23,8 @@ def is_meet(lot, sides):
     for side in having:
         common = common & side
     return common == lot
+
+
+def are_alone(shared, sides):
+    """Whether just two sides have all of what they share."""
+    return len([side for side in sides if side & shared == shared]) == 2

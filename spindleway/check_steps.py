@@ -12,13 +12,16 @@ def shows_apart(solid, one, other, value):
     check_solid(solid)
     check_side(solid, one, "one")
     check_side(solid, other, "other")
-    if type(value) is not Apart:
+    return type(value) is Apart and tells_apart(solid.neighbours, one, other, value)
+
+
+def tells_apart(neighbours, one, other, paper):
+    """Whether the walk and the numbering of an Apart tell the same of two sides, by the neighbours of each side."""
+    if not is_walk(neighbours, paper.walk, one, other):
         return False
-    if not is_walk(solid.neighbours, value.walk, one, other):
+    if not is_numbering(neighbours, paper.numbers):
         return False
-    if not is_numbering(solid.neighbours, value.numbers):
-        return False
-    return value.numbers[other] - value.numbers[one] == len(value.walk) - 1
+    return paper.numbers[other] - paper.numbers[one] == len(paper.walk) - 1
 
 
 def shows_ways(solid, one, other, value):

@@ -1,7 +1,7 @@
 import unittest
 from itertools import combinations
 
-from spindleway.bits import bits_of, has_all, is_meet
+from spindleway.bits import are_alone, bits_of, has_all, is_meet
 
 
 def lot_of(bits):
@@ -26,6 +26,11 @@ class BitsTest(unittest.TestCase):
             common = set.intersection(*[set(lot_of(side)) for side in having]) if having else None
             self.assertIs(is_meet(lot, sides), common == set(lot_of(lot)))
         self.assertEqual([lot for lot in range(16) if is_meet(lot, sides)], [1, 3, 5, 7, 9, 11, 13])
+
+    def test_are_alone(self):
+        sides = (0b0111, 0b1011, 0b1101)
+        self.assertEqual([lot for lot in range(16) if are_alone(lot, sides)], [2, 3, 4, 5, 8, 9])
+
 
 
 if __name__ == "__main__":

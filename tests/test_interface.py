@@ -22,6 +22,12 @@ FUNCTIONS = {
     },
     "middles": {"middle": "spindle"},
     "overs": {"lies_over": "first second", "led_numbers": "first second over numbers"},
+    "pulls": {
+        "is_plain": "spindle", "pulled": "spindle point", "made_plain": "spindle", "pulls_of": "spindle",
+    },
+    "check_overs": {"shows_over": "first second value"},
+    "likenesses": {"likenesses_of": "points given", "kinds_of": "points given lots"},
+    "check_long": {"shows_long": "value"},
 }
 # For each class its parameters, and the methods that the interface lists for it, with theirs.
 CLASSES = {
@@ -31,8 +37,12 @@ CLASSES = {
     "ways": {"Ways": ("walks", {})},
     "spindles": {"Spindle": ("points", {"__eq__": "other", "__str__": "", "read": "text"})},
     "overs": {"Over": ("sides", {}), "Strays": ("side", {}), "Leaps": ("one other", {})},
+    "likenesses": {
+        "Likeness": ("places signs", {"__eq__": "other", "led": "point", "then": "other", "back": "", "same": "wide"}),
+    },
+    "fortyeight": {"Long": ("", {"__eq__": "other", "near": "side", "given": "", "numbers": "", "walk": ""})},
 }
-STATIC = ("read",)
+STATIC = ("read", "same")
 
 
 def parameters_of(value):
