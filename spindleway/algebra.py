@@ -42,13 +42,17 @@ def narrowed(held, row):
         return held
     pivot = pivots[0]
     return [
-        _without(held[at], products[at], held[pivot], products[pivot])
+        without(held[at], products[at], held[pivot], products[pivot])
         for at in range(len(held))
         if at != pivot
     ]
 
 
-def _without(row, product, pivot_row, pivot_product):
+def without(row, product, pivot_row, pivot_product):
+    """The row, as often as a pivot's product with a point tells, less the pivot as often as its own one tells.
+
+    So its product with the point is 0. It is reduced; by a pivot_product above 0 it is not turned about.
+    """
     if product == 0:
         return row
     return reduced([one * pivot_product - two * product for one, two in zip(row, pivot_row)])

@@ -9,6 +9,11 @@ def bits_of(lot):
     return bits
 
 
+def lot_of(bits):
+    """The lot, ascending, of the places at which an integer has a bit."""
+    return tuple([at for at in range(bits.bit_length()) if bits >> at & 1])
+
+
 def has_all(bits, other):
     """Whether a lot has all points of another one."""
     return bits & other == other
@@ -28,3 +33,11 @@ def is_meet(lot, sides):
 def are_alone(shared, sides):
     """Whether just two sides have all of what they share."""
     return len([side for side in sides if side & shared == shared]) == 2
+
+
+def count_table():
+    """How many bits each integer below 256 has."""
+    counts = [0]
+    for _ in range(8):
+        counts = counts + [more + 1 for more in counts]
+    return counts

@@ -1,70 +1,92 @@
 """The sides of some points, with their planes, and the ridges between them.
 
-The callers have checked the points: unlike ones of as many integers each, that span as many dimensions.
+The callers have checked the points: unlike ones of as many integers each. A plane is told by a row whose
+product with each lifted point of its side is 0, and with each other one below 0; a side by the bits of its points.
 """
 
-from spindleway.algebra import lifted_point, narrowed, product_of, span_among, unit_rows
+from spindleway.algebra import lifted_point, narrowed, product_of, unit_rows, without
+from spindleway.bits import are_alone, count_table
 
 
-def planes_by_side(points):
-    """A dict from each side, a lot, to its plane (row, number) that has all other points below."""
-    lifted = [lifted_point(point) for point in points]
-    found = {}
-    for row in _rows_through(lifted):
-        side, sign = _side_and_sign(row, lifted)
-        if sign != 0:
-            found[side] = (tuple([-sign * number for number in row[:-1]]), sign * row[-1])
-    return found
+def rows_by_side(points):
+    """A dict from the bits of each side to its row; None if the points do not span all dimensions.
 
-
-def _rows_through(lifted):
-    """For each choice of lifted points that just span a plane, the row whose product with them is 0."""
-    wide = len(lifted[0])
-    held = [(0, unit_rows(wide))]
-    for _ in range(wide - 1):
-        held = [chosen for start, rows in held for chosen in _with_one_more(lifted, start, rows)]
-    return [rows[0] for _, rows in held]
-
-
-def _with_one_more(lifted, start, rows):
-    """The choices that come by one more lifted point from start on: where the next may begin, rows."""
-    chosen = []
-    for at in range(start, len(lifted)):
-        fewer = narrowed(rows, lifted[at])
-        if len(fewer) < len(rows):
-            chosen.append((at + 1, fewer))
-    return chosen
-
-
-def _side_and_sign(row, lifted):
-    """The lot with the product 0 and the sign of all other products; the sign 0 if they have both."""
-    side = []
-    sign = 0
-    for at in range(len(lifted)):
-        product = product_of(row, lifted[at])
-        if product == 0:
-            side.append(at)
-        elif sign == 0:
-            sign = 1 if product > 0 else -1
-        elif (product > 0) != (sign > 0):
-            return (), 0
-    return tuple(side), sign
-
-
-def ridges_among(points, sides):
-    """The triples (lot, one, other) of all ridges, ascending, one below other being numbers of sides."""
-    found = []
-    for other in range(len(sides)):
-        for one in range(other):
-            shared = tuple([point for point in sides[one] if point in sides[other]])
-            if _is_ridge(points, shared):
-                found.append((shared, one, other))
-    return tuple(sorted(found))
-
-
-def _is_ridge(points, shared):
+    One point after another comes to those ahead of it. Their sides, within what they span, are known
+    then, and the free rows, whose product with each of them is 0.
+    """
     wide = len(points[0])
-    # Fewer points cannot span enough, and most pairs of sides end here.
-    if len(shared) < wide - 1:
-        return False
-    return span_among([points[at] for at in shared], wide) == wide - 2
+    free = unit_rows(wide + 1)
+    rows = {}
+    counts = count_table()
+    for at in range(len(points)):
+        point = lifted_point(points[at])
+        fewer = narrowed(free, point)
+        if len(fewer) < len(free):
+            pivots = [row for row in free if product_of(row, point) != 0]
+            rows = _with_point_beyond(rows, point, 1 << at, pivots[0])
+            free = fewer
+        else:
+            rows = _with_point_within(rows, point, 1 << at, wide - 1 - len(free), counts)
+    return None if free else rows
+
+
+def _with_point_beyond(rows, point, bit, pivot):
+    """The rows by side with a point that is not in the span of those ahead, told by a free row.
+
+    Each side gets the point, and all points ahead, the lesser bits, make one more side.
+    """
+    worth = product_of(pivot, point)
+    if worth < 0:
+        pivot = [-number for number in pivot]
+        worth = -worth
+    grown = {side | bit: without(row, product_of(row, point), pivot, worth) for side, row in rows.items()}
+    grown[bit - 1] = tuple([-number for number in pivot])
+    return grown
+
+
+def _with_point_within(rows, point, bit, least, counts):
+    """The rows by side with a point in the span of those ahead, where each ridge has least points or more.
+
+    Sides that the point is past are gone; with each ridge between one of them and a side that the point is
+    below it makes a new one, whose row is a sum of both rows.
+    """
+    sides = list(rows)
+    worths = {side: product_of(rows[side], point) for side in sides}
+    below = [side for side in sides if worths[side] < 0]
+    grown = {side: rows[side] for side in below}
+    for side in sides:
+        if worths[side] == 0:
+            grown[side | bit] = rows[side]
+        elif worths[side] > 0:
+            for other in near_among(side, below, sides, least, counts):
+                grown[side & other | bit] = without(rows[other], worths[other], rows[side], worths[side])
+    return grown
+
+
+def near_among(side, others, sides, least, counts):
+    """Those of others, among all sides, with which a side has a ridge in common, of least points or more.
+
+    What two sides share is a ridge if no third side has all of it. This need not be looked at where one of
+    the two has just one point more than least: no point of it lies in the span of its other ones.
+    """
+    many = least + 1
+    # A solid has at most 16 points: their bits are counted by two looks at the table.
+    near = [other for other in others if counts[side & other & 255] + counts[(side & other) >> 8] >= least]
+    if counts[side & 255] + counts[side >> 8] == many:
+        return near
+    return [
+        other
+        for other in near
+        if counts[other & 255] + counts[other >> 8] == many or are_alone(side & other, sides)
+    ]
+
+
+def ridges_among(sides, wide):
+    """The triples (shared, one, other) of all ridges, shared being bits, one below other numbers of sides."""
+    counts = count_table()
+    number_of = {sides[number]: number for number in range(len(sides))}
+    return [
+        (sides[one] & other, one, number_of[other])
+        for one in range(len(sides))
+        for other in near_among(sides[one], sides[one + 1:], sides, wide - 1, counts)
+    ]

@@ -1,10 +1,10 @@
 """Solids: points, their sides and the planes of these."""
 
-from spindleway.algebra import product_of, rank_among, span_among
-from spindleway.bits import bits_of, is_meet
+from spindleway.algebra import product_of, rank_among
+from spindleway.bits import bits_of, is_meet, lot_of
 from spindleway.checks import are_points, is_list, is_lot, is_point, is_within
 from spindleway.errors import BadLot, BadNumber, BadSolid, BadText, Misfit, SolidError, Spare, Twice
-from spindleway.hull import planes_by_side, ridges_among
+from spindleway.hull import ridges_among, rows_by_side
 from spindleway.texts import points_in, written_point
 
 LEAST_DIMENSION = 2
@@ -26,14 +26,14 @@ class Solid:
         self.points = tuple([tuple(point) for point in points])
         self.dimension = len(self.points[0])
         _check_unlike(self.points)
-        if span_among(self.points, self.dimension) < self.dimension:
+        rows = rows_by_side(self.points)
+        if rows is None:
             raise BadSolid("flat")
-        planes = planes_by_side(self.points)
-        self.sides = tuple(sorted(planes))
-        self.planes = tuple([planes[side] for side in self.sides])
+        self.sides = tuple(sorted([lot_of(bits) for bits in rows]))
         self.bits = tuple([bits_of(side) for side in self.sides])
+        self.planes = tuple([(rows[bits][:-1], -rows[bits][-1]) for bits in self.bits])
         _check_corners(self.points, self.bits)
-        self.ridges = ridges_among(self.points, self.sides)
+        self.ridges = _ridges_between(self.sides, self.bits, self.dimension)
         self.neighbours = _neighbours_over(self.ridges, len(self.sides))
 
     def __eq__(self, other):
@@ -70,6 +70,15 @@ def _check_corners(points, sides):
     for at in range(len(points)):
         if not is_meet(1 << at, sides):
             raise Spare(points[at])
+
+
+def _ridges_between(sides, bits, wide):
+    """The triples (lot, one, other) of all ridges, ascending."""
+    found = ridges_among(bits, wide)
+    return tuple(sorted([
+        (tuple([point for point in sides[one] if shared >> point & 1]), one, other)
+        for shared, one, other in found
+    ]))
 
 
 def _neighbours_over(ridges, many):

@@ -1,18 +1,17 @@
 import unittest
 from itertools import combinations
 
-from spindleway.bits import are_alone, bits_of, has_all, is_meet
-
-
-def lot_of(bits):
-    return tuple(at for at in range(8) if bits >> at & 1)
+from spindleway.bits import are_alone, bits_of, count_table, has_all, is_meet, lot_of
 
 
 class BitsTest(unittest.TestCase):
-    def test_bits_of(self):
+    def test_there_and_back(self):
         for many in range(6):
             for lot in combinations(range(12), many):
+                self.assertEqual(lot_of(bits_of(lot)), lot)
                 self.assertEqual(bits_of(lot), sum(2 ** at for at in lot))
+        self.assertEqual(lot_of(bits_of((0, 47))), (0, 47))
+        self.assertEqual(lot_of(0), ())
 
     def test_has_all(self):
         for one in range(32):
@@ -31,6 +30,8 @@ class BitsTest(unittest.TestCase):
         sides = (0b0111, 0b1011, 0b1101)
         self.assertEqual([lot for lot in range(16) if are_alone(lot, sides)], [2, 3, 4, 5, 8, 9])
 
+    def test_count_table(self):
+        self.assertEqual(count_table(), [bin(bits).count("1") for bits in range(256)])
 
 
 if __name__ == "__main__":
