@@ -10,9 +10,8 @@ from spindleway.walks import steps_over, traced_from
 DIMENSION = 5
 TOP_PLANE = ((0, 0, 0, 0, 1), 1)
 BOTTOM_PLANE = ((0, 0, 0, 0, -1), 1)
-# One plane for each kind of sides: the given likenesses lead it to those of all other sides of its kind.
+# One plane for each kind of sides between the ends: likenesses lead it to those of all other sides of its kind.
 KIND_PLANES = (
-    TOP_PLANE,
     ((2, 1, 1, 1, 15), 75),
     ((2, 1, 1, 4, -45), 135),
     ((6, 3, 3, 2, 60), 210),
@@ -31,7 +30,7 @@ class Long:
         self.points = tuple(sorted(_points()))
         given = self.given()
         leads = [led_indexes(self.points, each) for each in given]
-        planes = {_held(self.points, plane): plane for plane in KIND_PLANES}
+        planes = {_held(self.points, plane): plane for plane in [TOP_PLANE, *KIND_PLANES]}
         lanes = _lanes_from(list(planes), leads)
         bits = {lot: bits_of(lot) for lot in lanes}
         near_lots = {lot: _near_to(lot, bits) for lot in planes}
