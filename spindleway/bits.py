@@ -19,6 +19,14 @@ def has_all(bits, other):
     return bits & other == other
 
 
+def first_with_all(sides, lot):
+    """The number of the first side that has all points of a lot, None if none has."""
+    for number in range(len(sides)):
+        if has_all(sides[number], lot):
+            return number
+    return None
+
+
 def is_meet(lot, sides):
     """Whether some of the sides have all of a lot, and these have nothing else in common."""
     having = [side for side in sides if side & lot == lot]

@@ -1,6 +1,6 @@
 """Whether one spindle lies over another one, and the papers that tell so."""
 
-from spindleway.bits import has_all
+from spindleway.bits import first_with_all, has_all
 from spindleway.checks import is_point, is_within
 from spindleway.errors import BadNumber, BadPaper, Misfit
 from spindleway.papers import Denial, Paper
@@ -47,15 +47,7 @@ def check_pair(first, second):
 
 def first_holders(first, second):
     """For each side of second the first side of first that holds it, None where none does."""
-    return tuple([_first_with_all(first.solid.bits, side) for side in second.solid.bits])
-
-
-def _first_with_all(sides, lot):
-    """The number of the first side that has all points of a lot, None if none has."""
-    for number in range(len(sides)):
-        if has_all(sides[number], lot):
-            return number
-    return None
+    return tuple([first_with_all(first.solid.bits, side) for side in second.solid.bits])
 
 
 def _first_leap(first, second, sides):

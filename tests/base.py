@@ -3,7 +3,7 @@
 import unittest
 from fractions import Fraction
 from itertools import combinations
-from time import monotonic
+from time import monotonic, process_time
 
 from spindleway.errors import SolidError
 
@@ -34,6 +34,18 @@ class TimedCase(Case):
         told = call(*args)
         self.assertLess(monotonic() - start, self.seconds)
         return told
+
+
+class ManyCase(Case):
+    # For each call, on the whole, and of this process alone: again far above what is needed.
+    milliseconds = 20
+
+    def many_in_time(self, call, lots):
+        """What a call returns for each of some arguments; on the whole they take no longer than is told."""
+        start = process_time()
+        found = [call(*each) for each in lots]
+        self.assertLess((process_time() - start) * 1000, self.milliseconds * len(lots))
+        return found
 
 
 def rank(rows):

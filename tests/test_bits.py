@@ -1,7 +1,7 @@
 import unittest
 from itertools import combinations
 
-from spindleway.bits import are_alone, bits_of, count_table, has_all, is_meet, lot_of
+from spindleway.bits import are_alone, bits_of, count_table, first_with_all, has_all, is_meet, lot_of
 
 
 class BitsTest(unittest.TestCase):
@@ -17,6 +17,13 @@ class BitsTest(unittest.TestCase):
         for one in range(32):
             for other in range(32):
                 self.assertIs(has_all(one, other), set(lot_of(other)) <= set(lot_of(one)))
+
+    def test_first_with_all(self):
+        sides = (0b0111, 0b1011, 0b1101)
+        for lot in range(16):
+            having = [number for number in range(3) if has_all(sides[number], lot)]
+            self.assertEqual(first_with_all(sides, lot), having[0] if having else None)
+        self.assertIsNone(first_with_all((), 0))
 
     def test_is_meet(self):
         sides = (0b0111, 0b1011, 0b1101)
