@@ -1,6 +1,6 @@
 """Sums of products over rows of integers, nothing of it rounded. The callers have checked the rows."""
 
-from math import gcd
+from math import gcd, lcm
 
 
 def divisor_of(values):
@@ -11,6 +11,15 @@ def divisor_of(values):
         if divisor == 1:
             return 1
     return divisor
+
+
+def multiple_of(values):
+    """The least integer from 1 on that is a multiple of all values that are not 0."""
+    multiple = 1
+    for value in values:
+        if value != 0:
+            multiple = lcm(multiple, value)
+    return multiple
 
 
 def reduced(values):

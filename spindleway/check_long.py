@@ -1,9 +1,9 @@
 """Whether any value is a right paper about the length of the spindle of the 48 points."""
 
-from spindleway.check_steps import tells_apart
 from spindleway.checks import are_integers
 from spindleway.fortyeight import Long
 from spindleway.steps import Apart
+from spindleway.walks import tells_apart
 
 
 def shows_long(value):
@@ -12,4 +12,4 @@ def shows_long(value):
     if type(value) is not Apart or not are_integers(value.walk) or not are_integers(value.numbers):
         return False
     long = Long()
-    return tells_apart(long.neighbours, long.top, long.bottom, value)
+    return tells_apart(long.neighbours, long.top, long.bottom, value.walk, value.numbers)

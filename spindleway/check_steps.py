@@ -3,7 +3,7 @@
 from spindleway.checks import is_list
 from spindleway.solids import check_side, check_solid
 from spindleway.steps import Apart
-from spindleway.walks import is_numbering, is_walk
+from spindleway.walks import is_walk, tells_apart
 from spindleway.ways import Ways, check_ends
 
 
@@ -12,16 +12,7 @@ def shows_apart(solid, one, other, value):
     check_solid(solid)
     check_side(solid, one, "one")
     check_side(solid, other, "other")
-    return type(value) is Apart and tells_apart(solid.neighbours, one, other, value)
-
-
-def tells_apart(neighbours, one, other, paper):
-    """Whether the walk and the numbering of an Apart tell the same of two sides, by the neighbours of each side."""
-    if not is_walk(neighbours, paper.walk, one, other):
-        return False
-    if not is_numbering(neighbours, paper.numbers):
-        return False
-    return paper.numbers[other] - paper.numbers[one] == len(paper.walk) - 1
+    return type(value) is Apart and tells_apart(solid.neighbours, one, other, value.walk, value.numbers)
 
 
 def shows_ways(solid, one, other, value):

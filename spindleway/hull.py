@@ -4,22 +4,45 @@ The callers have checked the points: unlike ones of as many integers each. A pla
 product with each lifted point of its side is 0, and with each other one below 0; a side by the bits of its points.
 """
 
-from spindleway.algebra import lifted_point, narrowed, product_of, unit_rows, without
+from spindleway.algebra import divisor_of, lifted_point, multiple_of, narrowed, product_of, reduced, unit_rows, without
 from spindleway.bits import are_alone, count_table
+
+# Shorter integers are multiplied so fast that nothing is won by still shorter ones.
+LONG_BITS = 256
 
 
 def rows_by_side(points):
-    """A dict from the bits of each side to its row; None if the points do not span all dimensions.
+    """A dict from the bits of each side to its row; None if the points do not span all dimensions."""
+    whole = [lifted_point(point) for point in points]
+    if _most_bits(whole) <= LONG_BITS:
+        return _rows_among(whole)
+    # What is turned, and what is led, may be so many times as large as ratios of far shorter integers.
+    scale = multiple_of([divisor_of(point) for point in points])
+    ratios = [reduced((*point, scale)) for point in points]
+    if _most_bits(ratios) >= _most_bits(whole):
+        return _rows_among(whole)
+    rows = _rows_among(ratios)
+    if rows is None:
+        return None
+    return {side: reduced((*row[:-1], row[-1] * scale)) for side, row in rows.items()}
+
+
+def _most_bits(points):
+    return max([abs(number) for point in points for number in point]).bit_length()
+
+
+def _rows_among(points):
+    """A dict from the bits of each side to its row, the points being lifted, each multiplied by an integer above 0.
 
     One point after another comes to those ahead of it. Their sides, within what they span, are known
     then, and the free rows, whose product with each of them is 0.
     """
-    wide = len(points[0])
+    wide = len(points[0]) - 1
     free = unit_rows(wide + 1)
     rows = {}
     counts = count_table()
     for at in range(len(points)):
-        point = lifted_point(points[at])
+        point = points[at]
         fewer = narrowed(free, point)
         if len(fewer) < len(free):
             pivots = [row for row in free if product_of(row, point) != 0]

@@ -2,7 +2,7 @@
 
 from spindleway.checks import are_integers, are_points, is_list, is_lot, is_point, is_within
 from spindleway.errors import BadLikeness, BadLot, BadNumber, BadPoint, Misfit, TooMany
-from spindleway.walks import traced_from
+from spindleway.walks import pieces_over
 
 LEAST_WIDE = 2
 MOST_WIDE = 6
@@ -78,7 +78,7 @@ def kinds_of(points, given, lots):
     lanes = {tuple(lot): led_lots(lot, leads) for lot in lots}
     if not all([led in lanes for lot in lanes for led in lanes[lot]]):
         raise Misfit("lots")
-    return _kinds_over(lanes)
+    return pieces_over(lanes)
 
 
 def _check_points_and_given(points, given):
@@ -142,15 +142,3 @@ def _one_then(one, other):
         tuple([places[place] for place in other[0]]),
         tuple([sign * signs[place] for place, sign in zip(other[0], other[1])]),
     )
-
-
-def _kinds_over(lanes):
-    kinds = []
-    seen = set()
-    for lot in sorted(lanes):
-        if lot not in seen:
-            kind = tuple(sorted(traced_from(lanes, lot)))
-            kinds.append(kind)
-            for each in kind:
-                seen.add(each)
-    return tuple(kinds)

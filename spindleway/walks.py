@@ -1,6 +1,6 @@
-"""Steps and walks over sides, told by the neighbours of each side.
+"""Steps and walks over sides, told by the neighbours of each side, and likewise paths over points.
 
-The callers have checked the numbers of the sides, but not the values that is_walk and is_numbering take.
+The callers have checked the numbers of the sides, but not the values that is_walk, is_numbering and tells_apart take.
 """
 
 from spindleway.checks import are_integers, is_list, is_within
@@ -42,6 +42,19 @@ def steps_over(neighbours, start):
     return tuple([steps[side] for side in range(len(neighbours))])
 
 
+def pieces_over(lanes):
+    """All places in pieces, each an ascending tuple, ascending; within a piece lanes lead from each to each other."""
+    pieces = []
+    placed = {}
+    for place in sorted(lanes):
+        if place not in placed:
+            piece = tuple(sorted(traced_from(lanes, place)))
+            pieces.append(piece)
+            for each in piece:
+                placed[each] = True
+    return tuple(pieces)
+
+
 def is_walk(neighbours, value, one, other):
     """Whether any value is a walk from a side to another one."""
     if not is_list(value, 1, None):
@@ -62,3 +75,10 @@ def is_numbering(neighbours, value):
         for side in range(len(neighbours))
         for other in neighbours[side]
     ])
+
+
+def tells_apart(lanes, one, other, walk, numbers):
+    """Whether any two values are a walk and a numbering that tell the same of how far two places are apart."""
+    if not is_walk(lanes, walk, one, other) or not is_numbering(lanes, numbers):
+        return False
+    return numbers[other] - numbers[one] == len(walk) - 1

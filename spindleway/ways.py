@@ -4,7 +4,7 @@ from spindleway.checks import is_lot
 from spindleway.errors import BadLot, Misfit
 from spindleway.papers import Paper
 from spindleway.solids import check_side, check_solid
-from spindleway.walks import traced_from, way_to
+from spindleway.walks import pieces_over, traced_from, way_to
 
 
 class Ways(Paper):
@@ -77,10 +77,4 @@ def parted(solid, gone):
     for side in range(len(solid.sides)):
         if side not in gone:
             lanes[side] = [beyond for beyond in solid.neighbours[side] if beyond not in gone]
-    pieces = []
-    for side in lanes:
-        piece = tuple(sorted(traced_from(lanes, side)))
-        # Each piece is taken once, at its least side; so they come ascending, too.
-        if piece[0] == side:
-            pieces.append(piece)
-    return tuple(pieces)
+    return pieces_over(lanes)

@@ -28,6 +28,21 @@ FUNCTIONS = {
     "check_overs": {"shows_over": "first second value"},
     "likenesses": {"likenesses_of": "points given", "kinds_of": "points given lots"},
     "check_long": {"shows_long": "value"},
+    "lifts": {
+        "lifted": "spindle point heights by", "least_by": "spindle point heights", "lift_of": "spindle",
+        "lifts_of": "spindle", "led_through": "spindle lifts",
+    },
+    "wells": {"well": "spindle point heights by", "led_up": "spindle point heights by well numbers"},
+    "plans": {"plan": "dimension points length"},
+    "check_lifts": {"shows_well": "spindle point heights by value", "shows_lift": "spindle value"},
+    "corners": {"beside": "solid point", "path": "solid one other"},
+    "turned": {"turned": "solid numbers by"},
+    "boards": {"is_board": "solid", "agreeing": "solid one other", "short_path": "solid one other"},
+    "sums": {"worth_at": "solid row point", "best": "solid row start"},
+    "check_corners": {
+        "shows_path": "solid one other value", "shows_short": "solid one other value",
+        "shows_best": "solid row start value",
+    },
 }
 # For each class its parameters, and the methods that the interface lists for it, with theirs.
 CLASSES = {
@@ -41,6 +56,12 @@ CLASSES = {
         "Likeness": ("places signs", {"__eq__": "other", "led": "point", "then": "other", "back": "", "same": "wide"}),
     },
     "fortyeight": {"Long": ("", {"__eq__": "other", "near": "side", "given": "", "numbers": "", "walk": ""})},
+    "lifts": {"Lift": ("point heights by", {})},
+    "wells": {"Well": ("sides", {}), "Shut": ("side", {})},
+    "plans": {"Plan": ("dimension points length above", {})},
+    "corners": {"Path": ("points numbers", {})},
+    "boards": {"Short": ("points", {})},
+    "sums": {"Best": ("points weights by", {})},
 }
 STATIC = ("read", "same")
 
