@@ -1,15 +1,13 @@
 """The spindle of the 48 points, of dimension five and length six."""
 
-from spindleway.algebra import product_of
-from spindleway.bits import are_alone, bits_of
 from spindleway.checks import is_within
 from spindleway.errors import BadNumber
-from spindleway.likenesses import Likeness, led_indexes, led_lots
-from spindleway.walks import steps_over, traced_from
+from spindleway.likenesses import Likeness
+from spindleway.longtables import BOTTOM, NEIGHBOURS, PLACES, SIDES, TOP
+from spindleway.walks import steps_over
 
 DIMENSION = 5
-TOP_PLANE = ((0, 0, 0, 0, 1), 1)
-BOTTOM_PLANE = ((0, 0, 0, 0, -1), 1)
+SIGNS = (1, -1)
 # One plane for each kind of sides between the ends: likenesses lead it to those of all other sides of its kind.
 KIND_PLANES = (
     ((2, 1, 1, 1, 15), 75),
@@ -28,20 +26,12 @@ class Long:
 
     def __init__(self):
         self.points = tuple(sorted(_points()))
-        given = self.given()
-        leads = [led_indexes(self.points, each) for each in given]
-        planes = {_held(self.points, plane): plane for plane in [TOP_PLANE, *KIND_PLANES]}
-        lanes = _lanes_from(list(planes), leads)
-        bits = {lot: bits_of(lot) for lot in lanes}
-        near_lots = {lot: _near_to(lot, bits) for lot in planes}
-        for first in list(planes):
-            _spread(first, given, lanes, planes, near_lots)
-        self.sides = tuple(sorted(lanes))
-        self.planes = tuple([planes[lot] for lot in self.sides])
-        number_of = {self.sides[number]: number for number in range(len(self.sides))}
-        self.neighbours = tuple([tuple([number_of[lot] for lot in near_lots[side]]) for side in self.sides])
-        self.top = self.planes.index(TOP_PLANE)
-        self.bottom = self.planes.index(BOTTOM_PLANE)
+        self.sides = SIDES
+        planes = _planes()
+        self.planes = tuple([planes[place] for place in PLACES])
+        self.neighbours = NEIGHBOURS
+        self.top = TOP
+        self.bottom = BOTTOM
 
     def __eq__(self, other):
         return isinstance(other, Long)
@@ -77,52 +67,37 @@ class Long:
 def _points():
     """The 48 points, in no order."""
     upper = []
-    for one in (1, -1):
+    for one in SIGNS:
         upper.extend([(18 * one, 0, 0, 0, 1), (0, 18 * one, 0, 0, 1), (0, 0, 45 * one, 0, 1), (0, 0, 0, 45 * one, 1)])
-        for two in (1, -1):
+        for two in SIGNS:
             upper.extend([(15 * one, 15 * two, 0, 0, 1), (0, 0, 30 * one, 30 * two, 1)])
             upper.extend([(0, 10 * one, 40 * two, 0, 1), (10 * one, 0, 0, 40 * two, 1)])
-    return upper + [(e, c, a, b, -1) for a, b, c, e, _ in upper]
+    return upper + [_exchanged(point) for point in upper]
 
 
-def _held(points, plane):
-    """The lot of the points that a plane holds."""
-    row, number = plane
-    return tuple([at for at in range(len(points)) if product_of(row, points[at]) == number])
+def _exchanged(row):
+    """What the exchange leads a point, or the row of a plane, to."""
+    a, b, c, e, last = row
+    return e, c, a, b, -last
 
 
-def _lanes_from(lots, leads):
-    """All lots to which some lots are led, over and over, each with those to which each lead leads it."""
-    lanes = {}
-    front = lots
-    while front:
-        for lot in front:
-            lanes[lot] = led_lots(lot, leads)
-        front = [lot for lot in sorted({led for each in front for led in lanes[each]}) if lot not in lanes]
-    return lanes
+def _planes():
+    """The planes of all sides, one kind after another, those of the upper and of the lower end last."""
+    planes = []
+    for row, number in KIND_PLANES:
+        for _ in range(4):
+            planes.extend([(each, number) for each in _turned_about(row)])
+            row = _exchanged(row)
+    return planes + [((0, 0, 0, 0, 1), 1), ((0, 0, 0, 0, -1), 1)]
 
 
-def _near_to(side, bits):
-    """The sides, ascending, that have a ridge in common with a side; bits has those of each side."""
-    sides = list(bits.values())
-    shared = {other: bits[side] & bits[other] for other in bits if other != side}
-    # Fewer points cannot span enough, and most sides end here.
-    close = [other for other in shared if f"{shared[other]:b}".count("1") >= DIMENSION - 1]
-    # No point of a side of so few points lies in the span of its other ones.
-    return sorted([
-        other
-        for other in close
-        if len(side) == DIMENSION or len(other) == DIMENSION or are_alone(shared[other], sides)
-    ])
-
-
-def _spread(first, given, lanes, planes, near_lots):
-    """Lead the plane and the neighbours of a first side to all sides of its kind."""
-    ahead_of = traced_from(lanes, first)
-    for lot in ahead_of:
-        ahead = ahead_of[lot]
-        if lot != first:
-            at = lanes[ahead].index(lot)
-            row, number = planes[ahead]
-            planes[lot] = (given[at].led(row), number)
-            near_lots[lot] = sorted([lanes[each][at] for each in near_lots[ahead]])
+def _turned_about(row):
+    """The rows that come of a row if signs are turned about at some of the places but the last."""
+    a, b, c, e, last = row
+    return [
+        (a * one, b * two, c * three, e * four, last)
+        for one in SIGNS
+        for two in SIGNS
+        for three in SIGNS
+        for four in SIGNS
+    ]

@@ -6,7 +6,7 @@ from spindleway.overs import Leaps, Over, Strays
 from spindleway.papers import Denial, Paper
 from spindleway.steps import Apart
 from spindleway.ways import Ways
-from tests.base import GREAT, ODD_VALUES
+from tests.base import GREAT, ODD_VALUES, ManyCase
 
 LONG = Long()
 WALK = LONG.walk()
@@ -111,3 +111,28 @@ class ShowsLongTest(unittest.TestCase):
             Apart(NUMBERS, WALK), Apart(None, None), LONG, shows_long,
         ):
             self.assertIs(shows_long(value), False)
+
+
+class ManyCallsTest(ManyCase):
+    # Here they take about an eighth of one; working out the sides at each call took six.
+    milliseconds = 1.5
+
+    def test_the_right_paper_and_the_walk_turned_round(self):
+        right, wrong = Apart(WALK, NUMBERS), Apart(WALK[::-1], NUMBERS)
+        told = self.many_in_time(shows_long, [(right,), (wrong,)] * 400)
+        self.assertEqual(told, [True, False] * 400)
+
+    def test_papers_made_each_time(self):
+        told = self.many_in_time(lambda: shows_long(Apart(Long().walk(), Long().numbers())), [()] * 400)
+        self.assertEqual(told, [True] * 400)
+
+    def test_bent_papers(self):
+        bent = [(Apart(WALK, (*NUMBERS[:at], NUMBERS[at] + 4, *NUMBERS[at + 1:])),) for at in range(322)]
+        self.assertEqual(self.many_in_time(shows_long, bent * 3), [False] * 966)
+
+    def test_longs(self):
+        self.assertEqual(self.many_in_time(Long, [()] * 400), [LONG] * 400)
+
+
+if __name__ == "__main__":
+    unittest.main()

@@ -178,8 +178,34 @@ class LongTest(Case):
         ):
             self.assertEqual(one, two)
 
+    def told_by(self, long):
+        """All that a Long tells."""
+        return (
+            long.points, long.sides, long.planes, long.top, long.bottom, long.walk(), long.numbers(),
+            [long.near(side) for side in range(322)], [(each.places, each.signs) for each in long.given()],
+        )
+
+    def test_as_it_was_whatever_is_done_with_an_earlier_one(self):
+        wanted = self.told_by(LONG)
+        bent = Long()
+        for likeness in bent.given():
+            likeness.places, likeness.signs = (1, 0), (1, 1)
+        for value in (bent.points, bent.sides, bent.planes, bent.near(0), bent.numbers(), bent.walk()):
+            with self.assertRaises(TypeError):
+                value[0] = None
+        for value in (list(bent.sides), list(bent.near(0)), list(bent.planes)):
+            value.clear()
+        for name in list(vars(bent)):
+            setattr(bent, name, ())
+        self.assertEqual(self.told_by(Long()), wanted)
+        self.assertEqual(Long(), LONG)
+        vars(bent).clear()
+        self.assertEqual(self.told_by(Long()), wanted)
+        self.assertEqual(self.told_by(LONG), wanted)
+
     def test_attributes_are_tuples(self):
-        for value in (LONG.points, *LONG.points, LONG.sides, *LONG.sides, LONG.planes, *LONG.planes):
+        near = [LONG.near(side) for side in range(322)]
+        for value in (LONG.points, *LONG.points, LONG.sides, *LONG.sides, LONG.planes, *LONG.planes, *near):
             self.assertIs(type(value), tuple)
         for row, number in LONG.planes:
             self.assertIs(type(row), tuple)
